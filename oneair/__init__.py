@@ -1,0 +1,1 @@
+"""Oneair: many who may speak on one air."""
