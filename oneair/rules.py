@@ -1,4 +1,4 @@
-"""Numbers of stations, rules and digits, as all other files need them."""
+"""Numbers of stations and of speakers, rules, sets and digits, as all other files need them."""
 
 from oneair.errors import BadNumber, BadRule
 
@@ -25,6 +25,13 @@ def check_many(many):
         raise BadNumber("no number of stations")
 
 
+def check_numbers(many, most):
+    """Refuse what is no number of stations, or no number of speakers among so many."""
+    check_many(many)
+    if not is_whole(most, 1, many):
+        raise BadNumber("no number of speakers")
+
+
 def check_rule(rule, many):
     """Refuse what is no rule for so many stations."""
     why = fault_of(rule, many)
@@ -34,7 +41,7 @@ def check_rule(rule, many):
 
 def fault_of(rule, many):
     """The first thing that is wrong with a rule, or None."""
-    if not has_shape(rule):
+    if not has_shape(rule, SHAPES):
         return "rule"
     if rule[0] == "rows" and not are_rows(rule[1], many):
         return "rows"
@@ -47,11 +54,11 @@ def fault_of(rule, many):
     return None
 
 
-def has_shape(rule):
-    """Whether this has a rule's word, and as many parts as go with it."""
-    if not isinstance(rule, tuple) or len(rule) == 0:
+def has_shape(parts, shapes):
+    """Whether these parts begin with one of the words, and are as many as go with it."""
+    if not isinstance(parts, tuple) or len(parts) == 0:
         return False
-    return (rule[0], len(rule)) in SHAPES
+    return (parts[0], len(parts)) in shapes
 
 
 def are_rows(rows, many):
@@ -66,6 +73,19 @@ def is_row(row):
     if not isinstance(row, str) or not 1 <= len(row) <= MOST_SIGNS:
         return False
     return all(sign in ("0", "1") for sign in row)
+
+
+def sets_of(many, least, most):
+    """All sets of at least and at most so many of the stations, in their order."""
+    told = []
+    groups = [()]
+    for size in range(most + 1):
+        if size >= least:
+            told.extend(groups)
+        # Each one of them with a greater station: so they stay in the order of tuples.
+        groups = [(*group, number) for group in groups for number in range(many)
+                  if number > max(group, default=-1)]
+    return told
 
 
 def digits_of(number, base, many):

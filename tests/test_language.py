@@ -1,6 +1,7 @@
 """What ../shared/LANGUAGE.md bounds and a reader would overlook in the package's files."""
 
 import ast
+import builtins
 import pathlib
 import re
 import unittest
@@ -48,6 +49,25 @@ class Files(unittest.TestCase):
             for node in ast.walk(tree):
                 if isinstance(node, ast.Call) and isinstance(node.func, ast.Name):
                     self.assertIn(node.func.id, BUILTINS | own, path)
+
+    def test_no_name_has_two_meanings(self):
+        for path in FILES:
+            tree = ast.parse(path.read_text())
+            taken = [alias.name for node in tree.body if isinstance(node, ast.ImportFrom)
+                     for alias in node.names]
+            taken += [node.name for node in tree.body if isinstance(node, ast.ClassDef)]
+            bound = [node.name for node in tree.body if isinstance(node, ast.FunctionDef)]
+            bound += [target.id for node in tree.body if isinstance(node, ast.Assign)
+                      for target in node.targets]
+            self.assertEqual(len(set(taken + bound)), len(taken + bound), path)
+            for node in ast.walk(tree):
+                if isinstance(node, ast.arg):
+                    bound.append(node.arg)
+                if isinstance(node, ast.Name) and isinstance(node.ctx, ast.Store):
+                    bound.append(node.id)
+            for name in bound:
+                self.assertNotIn(name, [*taken, *dir(builtins)], path)
+                self.assertRegex(name, "^[A-Za-z][A-Za-z0-9_]*$")
 
 
 if __name__ == "__main__":
